@@ -1,0 +1,1 @@
+"""Rows with all their versions kept."""
