@@ -6,7 +6,7 @@ import random
 import unittest
 
 from keptrows.collection import Collection
-from keptrows.rows import LEAF_NUMBERS
+from keptrows.rows import LEAF_NUMBERS, joined, row_of
 from keptrows.versions import answers
 from tests.helper import (
     MOST_NUMBERS, MOST_VERSIONS,
@@ -115,6 +115,13 @@ class SharingTest(LongTest):
             self.check_same(numbers_of_row(collection.rows[-1]), expected)
             self.assertLessEqual(collection.rows[-1].height, 18)
             self.check_built_well(collection)
+
+    def test_a_row_with_nothing_new_is_the_very_row(self):
+        row = row_of(list(range(1000)))
+        self.assertIs(joined(row, row_of([])), row)
+        self.assertIs(joined(row_of([]), row), row)
+        collection = collection_after(begin(), make(list(range(1000))), part(1, 0, 1000))
+        self.assertIs(collection.rows[2], collection.rows[1])
 
     def test_an_empty_stretch_leaves_no_empty_branch(self):
         collection = collection_after(begin(), make(list(range(4 * LEAF_NUMBERS))))
