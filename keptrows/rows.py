@@ -3,10 +3,13 @@
 A leaf holds some numbers; a fork holds two rows, one behind the other. A turned fork is read from its end,
 so that to turn a row takes no walk through it. The heights of a fork's two rows differ by 1 at most, which
 keeps every recursion here within some dozens of calls.
+
+Beside what it holds, a row keeps what was once found out of it: the row that is its other way round, and of a
+leaf how often each number stands in it.
 """
 
-# Long enough that a row has few leaves, short enough that to write one anew costs little.
-LEAF_NUMBERS = 64
+# Long enough that a row has few leaves to walk through, short enough that to write one anew costs little.
+LEAF_NUMBERS = 256
 
 
 class Leaf:
@@ -14,6 +17,8 @@ class Leaf:
         self.numbers = numbers
         self.length = len(numbers)
         self.height = 0
+        self.back = None
+        self.tally = None
 
 
 class Fork:
@@ -23,6 +28,7 @@ class Fork:
         self.turned = turned
         self.length = left.length + right.length
         self.height = 1 + max(left.height, right.height)
+        self.back = None
 
 
 def row_of(numbers):
@@ -33,6 +39,15 @@ def row_of(numbers):
 
 
 def turned_round(row):
+    # Kept, so that what is turned in two versions is the very same row in both.
+    if row.back is None:
+        back = newly_turned(row)
+        back.back = row
+        row.back = back
+    return row.back
+
+
+def newly_turned(row):
     if row.height == 0:
         return Leaf(row.numbers[::-1])
     return Fork(row.left, row.right, not row.turned)

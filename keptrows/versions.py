@@ -33,6 +33,34 @@ def answer_turn(collection, handed):
     return [collection.turn_stretch(handed[0], handed[1], handed[2])]
 
 
+def answer_join(collection, handed):
+    return [collection.join_versions(handed[0], handed[1])]
+
+
+def answer_put(collection, handed):
+    return [collection.put_version(handed[0], handed[1], handed[2])]
+
+
+def answer_length(collection, handed):
+    return [collection.length_of(handed[0])]
+
+
+def answer_out(collection, handed):
+    return collection.out_stretch(handed[0], handed[1], handed[2])
+
+
+def answer_count(collection, handed):
+    return [collection.count_number(handed[0], handed[1], handed[2], handed[3])]
+
+
+def answer_differ(collection, handed):
+    return [collection.differ_place(handed[0], handed[1])]
+
+
+def answer_origin(collection, handed):
+    return [collection.origin_version(handed[0], handed[1])]
+
+
 # By a call's number: how many numbers stand behind it (ahead of a row's own), and what answers it.
 CALLS = {
     0: (0, answer_begin),
@@ -42,6 +70,13 @@ CALLS = {
     4: (3, answer_remove),
     5: (3, answer_part),
     6: (3, answer_turn),
+    7: (2, answer_join),
+    8: (3, answer_put),
+    9: (1, answer_length),
+    10: (3, answer_out),
+    11: (4, answer_count),
+    12: (2, answer_differ),
+    13: (2, answer_origin),
 }
 
 

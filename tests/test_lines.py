@@ -1,193 +1,114 @@
-"""Whole lines of calls: against plain lists, as long as they may be, and what answers() leaves as it was."""
+"""Whole lines of calls: against plain lists, and what answers() leaves as it was."""
 
 import contextlib
 import io
 import random
 import unittest
 
-from keptrows.collection import Collection
-from keptrows.rows import LEAF_NUMBERS, joined, row_of
 from keptrows.versions import answers
 from tests.helper import (
-    MOST_NUMBERS, MOST_VERSIONS,
-    LongTest, PlainLists, answered, begin, collection_after, contents, insert, line, make, more_answers, numbers_of_row,
-    part, remove, set_at, turn,
+    MOST_NUMBERS,
+    LongTest, PlainLists, all_answered, begin, collection_after, contents, count, differ, insert, join, length, line,
+    make, origin, out, part, put, remove, set_at, sources, turn,
 )
 
 
-def some_place(source, length):
-    return source.choice([0, length, source.randint(0, length), source.randint(0, length), length + 1])
-
-
-def some_call(source, plain):
-    v = len(plain.versions) - source.choice([0, 1, 1, 1, 1, 1, 2, source.randint(1, len(plain.versions))])
-    length = len(plain.versions[v]) if v < len(plain.versions) else 3
-    x = source.choice([0, 4294967295, source.randint(0, 4294967295)])
-    start, end = some_place(source, length), some_place(source, length)
-    if start > end and source.random() < 0.9:
-        start, end = end, start
-    if source.random() < 0.6:
-        end = min(end, start + 20)
+def some_place(source, size):
     choice = source.randint(0, 99)
-    if choice < 1:
-        return begin()
-    if choice < 8:
-        return make([source.randint(0, 9) for k in range(source.choice([0, 1, 64, 65, 500]))])
-    if choice < 35:
+    if choice < 70:
+        return source.randint(0, size)
+    return 0 if choice < 84 else size if choice < 98 else size + 1
+
+
+def some_version(source, plain):
+    choice = source.randint(0, 99)
+    if choice < 60:
+        return len(plain.versions) - 1
+    return source.randint(0, len(plain.versions) - 1) if choice < 98 else len(plain.versions)
+
+
+def some_call(source, plain, most):
+    """A call on what is there or nearly so; a version of more than most numbers is cut most of the time."""
+    v, w = some_version(source, plain), some_version(source, plain)
+    size = len(plain.versions[v]) if v < len(plain.versions) else 3
+    x = source.choice([0, 4294967295, source.randint(0, 9), source.randint(0, 4294967295)])
+    start, end = some_place(source, size), some_place(source, size)
+    if start > end and source.random() < 0.95:
+        start, end = end, start
+    if size > most and source.random() < 0.7:
+        return part(v, start, min(end, start + most // 2))
+    choice = source.randint(0, 99)
+    if choice < 15:
         return insert(v, start, x)
-    if choice < 50:
+    if choice < 30:
         return set_at(v, start, x)
-    return source.choice([remove, part, turn, turn, turn])(v, start, min(end, 2147483647))
+    if choice < 45:
+        return source.choice([join(v, w), put(v, start, w)])
+    if choice < 75:
+        end = source.choice([end, max(start, min(end, start + 20))])
+        return source.choice([remove, turn, turn, turn])(v, start, end)
+    return source.choice([length(v), out(v, start, min(end, start + 3000)), count(v, start, end, x), differ(v, w),
+                          origin(v, w)])
 
 
 class PlainListsTest(LongTest):
-    def test_lines_answer_and_make_the_same_as_plain_lists(self):
+    def line_with_answers(self, source, first_calls, steps, most):
+        """A line, what plain lists answer to it, and these lists."""
+        plain = PlainLists()
+        calls = list(first_calls)
+        told = [plain.answer(call) for call in calls]
+        for step in range(steps):
+            calls.append(some_call(source, plain, most))
+            told.append(plain.answer(calls[-1]))
+        return calls, told, plain
+
+    def check_line(self, calls, told, plain):
+        self.check_same(all_answered(*calls), told)
+        collection = collection_after(*calls)
+        self.check_same(contents(collection), plain.versions)
+        self.check_same(sources(collection), plain.sources)
+        self.assertEqual(collection.told, plain.told)
+        self.check_built_well(collection)
+
+    def test_rows_of_some_thousand_numbers(self):
         for seed in range(60):
             source = random.Random(seed)
-            plain = PlainLists()
-            calls = [begin()]
-            told = [0]
-            for step in range(120):
-                call = some_call(source, plain)
-                calls.append(call)
-                told.append(plain.answer(call))
-            collection = collection_after(*calls)
-            self.check_same(answered(*calls), told)
-            self.check_same(contents(collection), plain.versions)
-            self.check_same(collection.sources, plain.sources)
-            self.assertEqual(collection.told, plain.told)
+            makes = [make([source.randint(0, 9) for k in range(size)]) for size in (0, 1, 256, 257, 2000)]
+            source.shuffle(makes)
+            self.check_line(*self.line_with_answers(source, [begin()] + makes, 150, 4000))
 
+    def test_very_short_rows_with_begin_again(self):
+        for seed in range(100):
+            source = random.Random(1000 + seed)
+            first, told, plain = self.line_with_answers(source, [begin(), make([1, 2, 3]), make([1, 2])], 50, 12)
+            second, more_told, plain = self.line_with_answers(source, [begin(), make([2, 2, 2])], 50, 12)
+            self.check_line(first + second, told + more_told, plain)
 
-def rows_within(rows):
-    """Every row of which the given ones are built, each once."""
-    seen = {}
-    waiting = list(rows)
-    while waiting:
-        row = waiting.pop()
-        if id(row) not in seen:
-            seen[id(row)] = row
-            if row.height > 0:
-                waiting.extend([row.left, row.right])
-    return list(seen.values())
+    def test_rows_as_long_as_they_may_be(self):
+        refused = 0
+        for seed in range(12):
+            source = random.Random(2000 + seed)
+            first = [begin(), make([source.randint(0, 9) for k in range(1024)])] + [join(v, v) for v in range(1, 7)]
+            calls, told, plain = self.line_with_answers(source, first, 150, MOST_NUMBERS - 5)
+            self.check_line(calls, told, plain)
+            self.assertGreater(max(len(row) for row in plain.versions), MOST_NUMBERS - 2000)
+            refused = refused + told.count([-3])
+        self.assertGreater(refused, 20)
 
-
-class SharingTest(LongTest):
-    def check_built_well(self, collection):
-        for row in rows_within(collection.rows):
-            if row.height > 0:
-                self.assertLessEqual(abs(row.left.height - row.right.height), 1)
-                self.assertEqual(row.height, 1 + max(row.left.height, row.right.height))
-                self.assertEqual(row.length, row.left.length + row.right.length)
-                self.assertGreater(min(row.left.length, row.right.length), 0)
-            else:
-                self.assertEqual(row.length, len(row.numbers))
-                self.assertLessEqual(row.length, LEAF_NUMBERS)
-
-    def test_all_versions_of_a_full_row_share_what_is_the_same(self):
-        source = random.Random(5)
-        collection = Collection()
-        more_answers(collection, begin(), make([source.randint(0, 4294967295) for k in range(MOST_NUMBERS)]))
-        expected = numbers_of_row(collection.rows[1])
-        for v in range(1, MOST_VERSIONS - 1):
-            start, end = sorted([source.randint(0, len(expected)), source.randint(0, len(expected))])
-            if v % 3 == 0:
-                call = turn(v, start, end)
-                expected[start:end] = expected[start:end][::-1]
-            elif v % 3 == 1:
-                call = remove(v, start, min(start + 1, len(expected)))
-                expected[start:start + 1] = []
-            else:
-                call = insert(v, start, v)
-                expected.insert(start, v)
-            self.assertEqual(more_answers(collection, call), [v + 1])
-        self.assertEqual(len(collection.rows), MOST_VERSIONS)
-        self.check_same(numbers_of_row(collection.rows[-1]), expected)
-        held = sum(len(row.numbers) for row in rows_within(collection.rows) if row.height == 0)
-        self.assertLess(held, MOST_VERSIONS * MOST_NUMBERS // 100)
-        self.check_built_well(collection)
-
-    def test_a_row_grown_number_by_number_stays_flat(self):
-        for at_end in (False, True):
-            collection = collection_after(begin())
-            for v in range(5000):
-                more_answers(collection, insert(v, v if at_end else 0, v))
-            expected = list(range(5000)) if at_end else list(range(4999, -1, -1))
-            self.check_same(numbers_of_row(collection.rows[-1]), expected)
-            self.assertLessEqual(collection.rows[-1].height, 18)
-            self.check_built_well(collection)
-
-    def test_a_row_with_nothing_new_is_the_very_row(self):
-        row = row_of(list(range(1000)))
-        self.assertIs(joined(row, row_of([])), row)
-        self.assertIs(joined(row_of([]), row), row)
-        collection = collection_after(begin(), make(list(range(1000))), part(1, 0, 1000))
-        self.assertIs(collection.rows[2], collection.rows[1])
-
-    def test_an_empty_stretch_leaves_no_empty_branch(self):
-        collection = collection_after(begin(), make(list(range(4 * LEAF_NUMBERS))))
-        for start in range(0, 5 * LEAF_NUMBERS, LEAF_NUMBERS):
-            more_answers(collection, remove(1, start, start), turn(1, start, start), part(1, start, start),
-                         remove(1, 0, start), remove(1, start, 4 * LEAF_NUMBERS))
-        self.assertEqual(len(collection.rows), 27)
-        self.check_built_well(collection)
-
-    def test_a_row_that_is_cut_down_stays_well_built(self):
-        source = random.Random(11)
-        collection = collection_after(begin(), make(list(range(20000))))
-        expected = list(range(20000))
-        v = 1
-        while len(expected) > 10:
-            start = source.randint(0, len(expected) - 1)
-            end = min(len(expected), start + source.randint(1, 40))
-            more_answers(collection, remove(v, start, end))
-            expected[start:end] = []
-            v = v + 1
-        self.check_same(numbers_of_row(collection.rows[-1]), expected)
-        self.check_built_well(collection)
-
-
-class LongestLineTest(LongTest):
-    """Lines within the interface's bounds, and just at them: 10000 calls, 30000 numbers."""
-
-    def check_bounds(self, calls, most_calls, most_numbers):
-        self.assertEqual((len(calls), len(line(*calls))), (most_calls, most_numbers))
-
-    def test_ten_thousand_calls_and_thirty_thousand_numbers(self):
-        calls = [begin(), make([1, 2, 3])]
-        told = [0, 1]
-        grown = 1
-        for step in range(4999):
-            calls.extend([insert(grown, step % 4, step), make([])])
-            for answer in (len(told), len(told) + 1):
-                told.append(answer if answer < MOST_VERSIONS else -1)
-            grown = told[-2] if told[-2] > 0 else grown
-        self.check_bounds(calls, 10000, 30000)
-        self.check_same(answered(*calls), told)
-        self.assertEqual(told.count(-1), 10000 - MOST_VERSIONS)
-
-    def test_the_longest_make(self):
-        calls = [begin(), make([4294967295] * 29990), insert(1, 29990, 0), make([]), begin()]
-        self.check_bounds(calls, 5, 30000)
-        self.assertEqual(answered(*calls), [0, 1, 2, 3, 0])
-        self.check_same(contents(collection_after(*calls[:3]))[2], [4294967295] * 29990 + [0])
-
-    def test_begin_ten_thousand_times(self):
-        self.check_same(answers([0] * 10000), [1, 0] * 10000)
-
-    def test_all_versions_with_long_ones_among_them(self):
-        source = random.Random(3)
-        expected = list(range(2000))
-        calls = [begin()] + [make([])] * 2390 + [make(expected)]
-        while len(calls) < MOST_VERSIONS:
-            start = source.randint(0, 2000)
-            end = source.randint(start, 2000)
-            calls.append(turn(len(calls) - 1, start, end))
-            expected[start:end] = expected[start:end][::-1]
-        self.check_bounds(calls, MOST_VERSIONS, 29983)
-        self.check_same(answered(*calls), list(range(MOST_VERSIONS)))
-        collection = collection_after(*calls)
-        self.check_same(numbers_of_row(collection.rows[-1]), expected)
-        self.assertEqual(more_answers(collection, turn(MOST_VERSIONS - 1, 0, 2000)), [-1])
+    def test_each_version_of_a_line_told_counted_and_compared_with_each(self):
+        for seed in range(40):
+            source = random.Random(3000 + seed)
+            size = source.choice([2, 6, 600])
+            first = [begin(), make([source.randint(0, 1) for k in range(size)]), make([1] * size)]
+            calls, told, plain = self.line_with_answers(source, first, 25, 3 * size)
+            asked = []
+            for v in range(len(plain.versions)):
+                size = len(plain.versions[v])
+                asked.extend([length(v), out(v, 0, size), count(v, 0, size, 1), count(v, size // 2, size, 0)])
+                for w in range(len(plain.versions)):
+                    asked.extend([differ(v, w), origin(v, w)])
+            told.extend([plain.answer(call) for call in asked])
+            self.check_line(calls + asked, told, plain)
 
 
 class Guarded(list):
@@ -202,8 +123,11 @@ class Guarded(list):
 
 class HandedInTest(unittest.TestCase):
     calls = line(begin(), make([3, 1, 2]), insert(1, 0, 4), set_at(2, 3, 9), set_at(2, 4, 9), turn(3, 1, 4),
-                 remove(4, 0, 1), part(4, 1, 2), begin(), make([5]), part(1, 0, 1), part(2, 0, 2))
-    told = [1, 0, 1, 1, 1, 2, 1, 3, 1, -2, 1, 4, 1, 5, 1, 6, 1, 0, 1, 1, 1, 2, 1, -2]
+                 remove(4, 0, 1), part(4, 1, 2), join(5, 1), put(7, 2, 5), length(8), out(8, 1, 6), count(8, 0, 9, 9),
+                 differ(7, 8), differ(3, 3), origin(8, 6), origin(8, 1), origin(8, 0), out(8, 0, 10), begin(),
+                 make([5]), part(1, 0, 1), part(2, 0, 2), out(2, 0, 1))
+    told = [1, 0, 1, 1, 1, 2, 1, 3, 1, -2, 1, 4, 1, 5, 1, 6, 1, 7, 1, 8, 1, 9, 6, 5, 1, 9, 1, 3, 3, 1, 2, 1, 2, 1, -1,
+            1, 4, 1, 1, 1, -1, 1, -2, 1, 0, 1, 1, 1, 2, 1, -2, 2, 1, 5]
 
     def test_the_list_is_as_it_was(self):
         handed = list(self.calls)
@@ -216,7 +140,7 @@ class HandedInTest(unittest.TestCase):
     def test_two_times_answer_alike(self):
         first = answers(self.calls)
         first.append(-9)
-        answers(line(begin(), make(list(range(100))), make([1])))
+        answers(line(begin(), make(list(range(100))), make([1]), join(1, 2), differ(1, 2), count(3, 0, 101, 1)))
         self.assertEqual(answers(self.calls), self.told)
 
     def test_the_answers_are_a_list_of_whole_numbers(self):
